@@ -13,6 +13,7 @@ import (
 var (
 	nameForm = regexp.MustCompile(`\A[a-z0-9._-]{1,8}\z`)
 	pathForm = regexp.MustCompile(`\A(/+|/*[a-z0-9._-]{1,8}(/+[a-z0-9._-]{1,8})*/*)\z`)
+	partForm = regexp.MustCompile(`[^/]+`)
 )
 
 func isNameByForm(s string) bool { return nameForm.MatchString(s) && s != "." && s != ".." }
@@ -20,7 +21,7 @@ func isNameByForm(s string) bool { return nameForm.MatchString(s) && s != "." &&
 func isPathByForm(s string) bool { return len(s) <= 60 && pathForm.MatchString(s) }
 
 // partsByForm does not go from slash to slash: it looks for what is between.
-func partsByForm(s string) []string { return regexp.MustCompile(`[^/]+`).FindAllString(s, -1) }
+func partsByForm(s string) []string { return partForm.FindAllString(s, -1) }
 
 // longPath is a whole path of n bytes, 2 at least, of one-letter names.
 func longPath(n int) string { return strings.Repeat("/", n%2) + strings.Repeat("/a", n/2) }
