@@ -131,11 +131,16 @@ func TestMakeSampleIsGood(t *testing.T) {
 	}
 }
 
+// A call is one of a function that answers with a file system.
+type call interface {
+	on(f impl.Fs, c impl.Cred) (impl.Fs, int, bool)
+}
+
 // A making is a deed of somebody, its code, and what is then another way in the
 // file system.
 type making struct {
 	cred impl.Cred
-	deed deed
+	deed call
 	code int
 	then func(f *impl.Fs)
 }
@@ -158,7 +163,7 @@ func checkMakings(t *testing.T, f impl.Fs, l []making) {
 }
 
 // faults has each deed for each cred with the same code, by which all stays.
-func faults(code int, creds []impl.Cred, deeds ...deed) []making {
+func faults[D call](code int, creds []impl.Cred, deeds ...D) []making {
 	var all []making
 	for _, c := range creds {
 		for _, d := range deeds {
@@ -1003,7 +1008,7 @@ func TestWhatIsMadeCanBeTakenAway(t *testing.T) {
 
 // checkAloof writes to all memory of an answer: no two of its lists may have any
 // in common, nor may one show what lay behind a list of the argument.
-func checkAloof(t *testing.T, d deed, g impl.Fs) {
+func checkAloof(t *testing.T, d call, g impl.Fs) {
 	t.Helper()
 	nodes := g.Nodes[:cap(g.Nodes)]
 	for i := range nodes {
@@ -1023,6 +1028,29 @@ func checkAloof(t *testing.T, d deed, g impl.Fs) {
 	}
 }
 
+// checkNewMemory hands a call lists that have more behind them, and empty ones that
+// lie in one piece of memory.
+func checkNewMemory(t *testing.T, f impl.Fs, c impl.Cred, d call) {
+	t.Helper()
+	block := make([]impl.Entry, 8)
+	for i := range f.Nodes {
+		if len(f.Nodes[i].List) == 0 {
+			f.Nodes[i].List = block[:0]
+		}
+	}
+	plain := copyOfFs(f)
+	want, wantCode, _ := d.on(plain, c)
+	isAsItWas := markBehind(&f)
+	g, code, ok := d.on(f, c)
+	if code != wantCode || !ok || !impl.SameFs(g, want) {
+		t.Fatalf("%+v: what is behind a list counts: %d, %v", d, code, g)
+	}
+	checkAloof(t, d, g)
+	if !isAsItWas() {
+		t.Fatalf("%+v: the argument shares memory with the answer, or was written to", d)
+	}
+}
+
 func TestMakeAnswersAreNewMemory(t *testing.T) {
 	deeds := slices.Concat(comings("/w/h", "/w/new"), comings("/w/h", "/w/f"), comings("/w/h", "/w/e/n"), comings("/w/h", "/none/x"), makings("/new"),
 		[]deed{unlink("/w/f"), unlink("/w/h"), unlink("/w/e"), unlink("/lr"), rmdir("/w/e"), rmdir("/w/d"), rmdir("/w/p/q"), move("/w/h", "/w/n"), move("/w/h", "/w/h"), move("/w/d", "/w/e"),
@@ -1035,24 +1063,7 @@ func TestMakeAnswersAreNewMemory(t *testing.T) {
 					f.Nodes[mkFree] = impl.Node{Kind: impl.KdFile}
 					come(&f, mkOwn, "more", mkFree)
 				}
-				// Lists that are empty and lie in one piece of memory.
-				block := make([]impl.Entry, 8)
-				for i := range f.Nodes {
-					if len(f.Nodes[i].List) == 0 {
-						f.Nodes[i].List = block[:0]
-					}
-				}
-				plain := copyOfFs(f)
-				want, wantCode, _ := d.on(plain, c)
-				isAsItWas := markBehind(&f)
-				g, code, ok := d.on(f, c)
-				if code != wantCode || !ok || !impl.SameFs(g, want) {
-					t.Fatalf("%+v: what is behind a list counts: %d, %v", d, code, g)
-				}
-				checkAloof(t, d, g)
-				if !isAsItWas() {
-					t.Fatalf("%+v: the argument shares memory with the answer, or was written to", d)
-				}
+				checkNewMemory(t, f, c, d)
 			}
 		}
 	}
